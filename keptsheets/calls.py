@@ -1,6 +1,6 @@
 """The calls about one page: what each of them refuses, in the order that is told, and what it answers."""
 
-from keptsheets.effects import MOST_NUMBER, is_effect
+from keptsheets.effects import MOST_NUMBER, is_effect, needed_cells, sheets_told
 
 MOST_SIDE = 6
 MOST_SHEETS = 10
@@ -62,3 +62,48 @@ def answer_effect(page, k, effect):
     if not is_effect(effect, k):
         return [NO_VALUE]
     return page.give_effect(k, effect)
+
+
+def answer_cells(page, k):
+    if not page.has_sheet(k):
+        return [NO_SHEET]
+    return list(page.sheets[k].numbers)
+
+
+def answer_cell(page, k, x, y):
+    if not page.has_sheet(k):
+        return [NO_SHEET]
+    if not page.has_cell(x, y):
+        return [NO_PLACE]
+    return [page.sheets[k].numbers[page.cell_at(x, y)]]
+
+
+def answer_look(page, k):
+    if not page.has_sheet(k):
+        return [NO_SHEET]
+    sheet = page.sheets[k]
+    cells = sheet.fresh_cells()
+    answer = [len(cells)]
+    for cell in cells:
+        answer.extend([cell, sheet.numbers[cell]])
+    sheet.mark_seen()
+    return answer
+
+
+def answer_needs(page, k, x, y):
+    if not page.has_sheet(k):
+        return [NO_SHEET]
+    if not page.has_cell(x, y):
+        return [NO_PLACE]
+    needed = needed_cells(page.sheets[k].effect, page.cell_at(x, y), page.wide, page.high)
+    answer = [len(needed)]
+    for told, cell in needed:
+        answer.extend([told, cell])
+    return answer
+
+
+def answer_list(page):
+    answer = [len(page.sheets)]
+    for sheet in page.sheets:
+        answer.extend([len(sheets_told(sheet.effect)), len(sheet.fresh_cells()), sum(sheet.numbers)])
+    return answer

@@ -14,6 +14,14 @@ class Sheet:
     def is_painted(self):
         return self.effect[0] == PAINTED
 
+    def fresh_cells(self):
+        """The cells that are new, rising."""
+        return [cell for cell in range(len(self.fresh)) if self.fresh[cell]]
+
+    def mark_seen(self):
+        """Once the sheet is looked at, none of its cells is new."""
+        self.fresh = [False for number in self.numbers]
+
 
 class Page:
     """The page's size and its sheets. A dict of (sheet, cell) tells what one change has changed so far."""
@@ -36,13 +44,16 @@ class Page:
     def has_cell(self, x, y):
         return x < self.wide and y < self.high
 
+    def cell_at(self, x, y):
+        return y * self.wide + x
+
     def cells_in_box(self, x, y, u, v):
         """The page's cells in the u columns from x on and the v rows from y on."""
         found = []
         # Cut at the page's edge first: u and v may be far greater than any page.
         for row in range(y, min(y + v, self.high)):
             for column in range(x, min(x + u, self.wide)):
-                found.append(row * self.wide + column)
+                found.append(self.cell_at(column, row))
         return found
 
     def add_sheet(self, effect):

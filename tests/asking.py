@@ -25,6 +25,26 @@ def effect(k, *numbers):
     return [4, k, len(numbers), *numbers]
 
 
+def cells(k):
+    return [5, k]
+
+
+def cell(k, x, y):
+    return [6, k, x, y]
+
+
+def look(k):
+    return [7, k]
+
+
+def needs(k, x, y):
+    return [8, k, x, y]
+
+
+def list_sheets():
+    return [9]
+
+
 def taken_apart(answered):
     """One list for each call, without how many numbers it has."""
     parts = []
@@ -58,5 +78,5 @@ def numbers_differ(calls, k, wide, rows):
     dots = [dot(k, x, y, rows[y][x]) for y in range(len(rows)) for x in range(wide)]
     answered = ask(*calls, effect(k, 0), *dots)[len(calls):]
     assert answered[0] == [0, 0], "a sheet's cells stay when it becomes painted"
-    cells = [(x, y) for y in range(len(rows)) for x in range(wide)]
-    return [cell for cell, answer in zip(cells, answered[1:]) if answer[0] != 0]
+    places = [(x, y) for y in range(len(rows)) for x in range(wide)]
+    return [place for place, answer in zip(places, answered[1:]) if answer[0] != 0]

@@ -29,10 +29,10 @@ class SlowPage:
             return [-1]
         self.w, self.h = w, h
         self.places = [(x, y) for y in range(h) for x in range(w)]
-        self.effects, self.sheets = [], []
+        self.effects, self.sheets, self.unseen = [], [], []
         return [0]
 
-    def needs(self, k, place):
+    def needed(self, k, place):
         effect, (x, y) = self.effects[k], place
         if effect[0] == 3:
             return [(effect[1], other) for other in self.places if abs(other[0] - x) < 2 and abs(other[1] - y) < 2]
@@ -55,14 +55,16 @@ class SlowPage:
             8: lambda a, b: abs(a - b),
             9: lambda a, b, m: a if m >= 128 else b,
         }[kind]
-        return {place: by(*[self.sheets[s][c] for s, c in self.needs(k, place)]) for place in self.places}
+        return {place: by(*[self.sheets[s][c] for s, c in self.needed(k, place)]) for place in self.places}
 
     def all_anew(self, k, before):
         """Makes all anew and answers what sheet k changed and what that touched."""
         for sheet in range(len(self.sheets)):
             self.sheets[sheet] = self.made(sheet)
         changed = {(s, c) for s in range(len(before)) for c in self.places if before[s][c] != self.sheets[s][c]}
-        touched = [(s, c) for s in range(k + 1, len(before)) for c in self.places if changed & set(self.needs(s, c))]
+        for s, c in changed:
+            self.unseen[s].add(c)
+        touched = [(s, c) for s in range(k + 1, len(before)) for c in self.places if changed & set(self.needed(s, c))]
         return [len([1 for s, c in changed if s == k]), len(touched)]
 
     def sheet(self, effect):
@@ -73,6 +75,7 @@ class SlowPage:
         self.effects.append(effect)
         self.sheets.append({place: 0 for place in self.places})
         self.sheets[-1] = self.made(len(self.sheets) - 1)
+        self.unseen.append(set(self.places))
         return [len(self.sheets) - 1]
 
     def dot(self, k, x, y, n):
@@ -101,3 +104,34 @@ class SlowPage:
         before = [dict(sheet) for sheet in self.sheets]
         self.effects[k] = effect
         return self.all_anew(k, before)
+
+    def cells(self, k):
+        if k >= len(self.sheets):
+            return [-2]
+        return [self.sheets[k][place] for place in self.places]
+
+    def cell(self, k, x, y):
+        if k >= len(self.sheets):
+            return [-2]
+        return [self.sheets[k].get((x, y), -1)]
+
+    def look(self, k):
+        if k >= len(self.sheets):
+            return [-2]
+        told = [(c, self.sheets[k][place]) for c, place in enumerate(self.places) if place in self.unseen[k]]
+        self.unseen[k] = set()
+        return [len(told)] + [number for pair in told for number in pair]
+
+    def needs(self, k, x, y):
+        if k >= len(self.sheets):
+            return [-2]
+        if (x, y) not in self.places:
+            return [-1]
+        told = self.needed(k, (x, y))
+        return [len(told)] + [number for s, place in told for number in (s, self.places.index(place))]
+
+    def list_sheets(self):
+        told = [len(self.sheets)]
+        for k, numbers in enumerate(self.sheets):
+            told += [FORMS[self.effects[k][0]].count("a"), len(self.unseen[k]), sum(numbers.values())]
+        return told
